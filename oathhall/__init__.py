@@ -1,0 +1,1 @@
+"""Oathhall: houses that bind bargains together, and books that stand."""
