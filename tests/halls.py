@@ -1,8 +1,12 @@
-"""What several tests of houses share."""
+"""What several tests share."""
 
 from oathhall.house import House
 
 HUGE = 10 ** 99 + 7
+
+
+def book_of(words, bargain):
+    return [(word, bargain) for word in words]
 
 
 def to_others(number, count, bargain, word):

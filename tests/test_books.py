@@ -3,8 +3,7 @@
 import unittest
 
 from oathhall.books import decision_in, is_unsure, knows, left_open, vote_in
-
-HUGE = 10 ** 99 + 7
+from halls import HUGE, book_of
 
 # Each way in which a bargain can stand in a book:
 # its words, and then vote, decision, unsure and left open.
@@ -19,10 +18,6 @@ WAYS = [
     (("yes", "bound"), "yes", "bound", False, False),
     (("yes", "off"), "yes", "off", False, False),
 ]
-
-
-def book_of(words, bargain):
-    return [(word, bargain) for word in words]
 
 
 def mixed_book():

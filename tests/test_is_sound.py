@@ -4,17 +4,13 @@ import itertools
 import unittest
 
 from oathhall.books import is_sound
+from halls import HUGE
 
-HUGE = 10 ** 99 + 7
 WORDS = ("open", "yes", "no", "bound", "off")
 SOUND_ROWS = {
     (), ("open",), ("yes",), ("no",), ("off",),
     ("open", "bound"), ("open", "off"), ("yes", "bound"), ("yes", "off"),
 }
-
-
-def book_of(words, bargain):
-    return [(word, bargain) for word in words]
 
 
 class IsSound(unittest.TestCase):
