@@ -11,8 +11,15 @@ class House:
         self.against = list(against)
         self.book = []
         self.awake = True
+        self.forget()
+
+    def forget(self):
         # By bargain the houses whose yes was counted, a dict so that each counts once.
         self.counted = {}
+        # By bargain its lines, as far as the book was read: a walk over the whole book
+        # for each letter would be slow in a story with many sweeps.
+        self.pages = {}
+        self.lines_read = 0
 
     def begin(self, bargain):
         if bargain in self.against:
@@ -34,13 +41,13 @@ class House:
         return self.got_decision(bargain, word)
 
     def query(self, bargain):
-        if not self.awake or not is_unsure(self.book, bargain):
+        if not self.awake or not is_unsure(self.page(bargain), bargain):
             return []
         return self.to_others(bargain, "query")
 
     def stop(self):
         self.awake = False
-        self.counted = {}
+        self.forget()
 
     def wake(self):
         self.awake = True
@@ -51,16 +58,22 @@ class House:
             sent.extend(self.decide(bargain, "off"))
         return sent
 
+    def is_spent(self, letter):
+        # What is decided stays decided, so one more no, bound or off of it brings nothing, ever.
+        if letter[3] not in ("no", "bound", "off"):
+            return False
+        return self.decision(letter[2]) is not None
+
     def got_ask(self, giver, bargain):
-        if not knows(self.book, bargain):
+        if not knows(self.page(bargain), bargain):
             self.write("no" if bargain in self.against else "yes", bargain)
         # Asked again, it answers again: the first answer may never have come.
-        if decision_in(self.book, bargain) == "off":
+        if self.decision(bargain) == "off":
             return self.to_one(giver, bargain, "no")
         return self.to_one(giver, bargain, "yes")
 
     def got_vote(self, giver, bargain, word):
-        decided = decision_in(self.book, bargain)
+        decided = self.decision(bargain)
         if decided is not None:
             # Who said yes may still be unsure; who said no has it off already.
             return self.to_one(giver, bargain, decided) if word == "yes" else []
@@ -73,17 +86,17 @@ class House:
         return self.decide(bargain, "bound")
 
     def got_decision(self, bargain, word):
-        if decision_in(self.book, bargain) is None:
+        if self.decision(bargain) is None:
             self.write(word, bargain)
         return []
 
     def got_query(self, giver, bargain):
-        if is_unsure(self.book, bargain):
+        if is_unsure(self.page(bargain), bargain):
             return []
-        decided = decision_in(self.book, bargain)
+        decided = self.decision(bargain)
         if decided is not None:
             return self.to_one(giver, bargain, decided)
-        if knows(self.book, bargain):
+        if knows(self.page(bargain), bargain):
             return self.decide(bargain, "off")
         # With its no in the book it can never say yes later, so off is safe to tell.
         self.write("no", bargain)
@@ -92,6 +105,16 @@ class House:
     def decide(self, bargain, word):
         self.write(word, bargain)
         return self.to_others(bargain, word)
+
+    def decision(self, bargain):
+        return decision_in(self.page(bargain), bargain)
+
+    def page(self, bargain):
+        while self.lines_read < len(self.book):
+            line = self.book[self.lines_read]
+            self.pages.setdefault(line[1], []).append(line)
+            self.lines_read += 1
+        return self.pages.get(bargain, [])
 
     def write(self, word, bargain):
         self.book.append((word, bargain))

@@ -127,6 +127,65 @@ class Form(unittest.TestCase):
                 own = node.level == 0 and (node.module or "").startswith("oathhall.")
                 self.refuse(place, "L2, L16", not own or any(a.name == "*" or a.asname for a in node.names))
 
+    def test_no_two_files_draw_from_one_another(self):
+        drawn = {name[:-3]: set() for name in self.trees}
+        for name, tree in self.trees.items():
+            for node in tree.body:
+                if isinstance(node, ast.ImportFrom):
+                    drawn[name[:-3]].add(node.module.split(".")[1])
+        while drawn:
+            free = [name for name, sources in drawn.items() if not sources & set(drawn)]
+            self.refuse(sorted(drawn), "L16", not free)
+            drawn = {name: sources for name, sources in drawn.items() if name not in free}
+
+    def test_a_name_is_drawn_from_the_file_that_defines_it(self):
+        for name, tree in self.trees.items():
+            for node in tree.body:
+                if isinstance(node, ast.ImportFrom):
+                    source = self.trees[node.module.split(".")[1] + ".py"]
+                    defined = [row.name for row in source.body if isinstance(row, (ast.FunctionDef, ast.ClassDef))]
+                    for drawn in node.names:
+                        self.refuse(f"{name}: {drawn.name}", "L16", drawn.name not in defined)
+
+    def test_top_of_a_file(self):
+        for name, tree in self.trees.items():
+            tops = [row.name for row in tree.body if isinstance(row, (ast.FunctionDef, ast.ClassDef))]
+            drawn = [a.name for row in tree.body if isinstance(row, ast.ImportFrom) for a in row.names]
+            self.refuse(name, "L15", len(set(tops + drawn)) != len(tops + drawn))
+            classes = [row.name for row in tree.body if isinstance(row, ast.ClassDef)]
+            for node in ast.walk(tree):
+                for bound in bound_names(node):
+                    self.refuse(f"{name}: {bound}", "L15", bound in classes + drawn)
+
+    def test_no_name_is_a_method_and_a_value(self):
+        methods = set()
+        values = set()
+        for place, node in self.nodes():
+            if isinstance(node, ast.ClassDef):
+                names = [row.name for row in node.body if isinstance(row, ast.FunctionDef)]
+                self.refuse(place, "L18", len(set(names)) != len(names))
+                methods.update(names)
+            if isinstance(node, ast.Attribute) and isinstance(node.ctx, ast.Store):
+                values.add(node.attr)
+        self.refuse(sorted(methods & values), "L18", methods & values)
+        for kind in (str, int, list, dict, set, bytes, tuple):
+            taken = (methods | values) & set(dir(kind)) - set(TWO_UNDERSCORES)
+            self.refuse(sorted(taken), "L26", taken)
+
+    def test_walked_at_once(self):
+        walked = ("range", "zip", "enumerate", "reversed")
+        takers = ("list", "tuple", "dict", "sorted", "sum", "any", "all", "enumerate", "zip", "min", "max")
+        for name, tree in self.trees.items():
+            at_once = []
+            for node in ast.walk(tree):
+                if isinstance(node, (ast.For, ast.comprehension)):
+                    at_once.append(node.iter)
+                if isinstance(node, ast.Call) and isinstance(node.func, ast.Name) and node.func.id in takers:
+                    at_once.extend(node.args[:1])
+            for node in ast.walk(tree):
+                if isinstance(node, ast.Call) and isinstance(node.func, ast.Name) and node.func.id in walked:
+                    self.refuse(f"{name}:{node.lineno}", "L23", node not in at_once)
+
     def test_names(self):
         for place, node in self.nodes():
             for name in names_in(node):
